@@ -1,0 +1,1 @@
+"""Trailbook: works of several steps that are done once or undone backwards."""
