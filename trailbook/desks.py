@@ -32,9 +32,12 @@ class Desk:
         self.stock[thing] = self.has(thing) - many
         return "did"
 
+    def put(self, thing, many):
+        self.stock[thing] = self.has(thing) + many
+
     def undo(self, key, thing, many):
         if self.fates.get(key) == "did":
-            self.stock[thing] = self.has(thing) + many
+            self.put(thing, many)
         # Kept even for a key that never came, so that its late do takes nothing.
         self.fates[key] = "undid"
         return "undid"
